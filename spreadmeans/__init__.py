@@ -1,0 +1,1 @@
+"""Means of powers: see spreadmeans.powers.answers."""
