@@ -20,11 +20,23 @@ def mean_of(factors, means):
     return mean_with_power(factors, 0, means)
 
 
-def mean_of_square(factors, means):
+def mean_of_product(factors, other, means):
     total = ZERO
     for i in range(len(factors)):
-        total = plus(total, times(factors[i], mean_with_power(factors, i, means)))
+        total = plus(total, times(factors[i], mean_with_power(other, i, means)))
     return total
+
+
+def mean_of_square(factors, means):
+    return mean_of_product(factors, factors, means)
+
+
+def value_at(factors, place):
+    """What the polynomial is at a place."""
+    value = ZERO
+    for factor in reversed(factors):
+        value = plus(times(value, place), factor)
+    return value
 
 
 def times_power_plus(factors, shift):

@@ -3,8 +3,7 @@
 from spreadmeans.calls import answer
 from spreadmeans.spreads import Spread
 
-# By a call's number: how many whole numbers it has ahead of its row. Calls that are not built are
-# read too, since before a begin they are answered like all others.
+# By a call's number: how many whole numbers it has ahead of its row.
 PLAIN_NUMBERS = (1, 3, 1, 4, 2, 0, 0, 0, 0, 0, 1, 0, 0, 2, 2, 5, 0)
 WITH_A_ROW = (2, 6, 16)
 

@@ -2,6 +2,7 @@
 
 ZERO = (0, 1)
 ONE = (1, 1)
+TWO = (2, 1)
 
 
 def shared_part(a, b):
@@ -35,12 +36,16 @@ def times(x, y):
     return fraction(x[0] * y[0], x[1] * y[1])
 
 
+def is_less(x, y):
+    return x[0] * y[1] < y[0] * x[1]
+
+
 def divided(x, y):
     """x by y; y isn't 0."""
     return fraction(x[0] * y[1], x[1] * y[0])
 
 
 def too_long(x):
-    """Whether the upper number, without its sign, or the lower one reaches the bound that put and move keep."""
+    """Whether the upper number, without its sign, or the lower one reaches the bound that put, move and take keep."""
     bound = 10 ** 60
     return abs(x[0]) >= bound or x[1] >= bound

@@ -16,9 +16,15 @@ PRIMES = [811, 821, 823, 827, 829, 839, 853, 857, 859, 863, 877, 881, 883, 887, 
 PRIMES_ABOVE = [509, 523, 569, 577, 601, 619, 643, 653, 673, 709, 719, 743, 811, 823, 827, 829, 877, 887, 907, 911, 977]
 PRIMES_BELOW = [503, 521, 523, 563, 599, 601, 641, 661, 701, 739, 743, 751, 787, 809, 811, 821, 883, 887, 937, 967, 977]
 
+# The means n! of the powers n: what is found for them has whole factors.
+FACTORIALS = [1, 1, 2, 6, 24, 120, 720, 5040, 40320]
+
 MEANS = [5]
 FITS = [7]
 STRICT = [8]
+PROOF = [9]
+TURNS = [11]
+RANK = [12]
 
 
 def begin(k):
@@ -43,6 +49,26 @@ def move(a, b):
 
 def mean(factors):
     return [6, len(factors)] + factors
+
+
+def angle(j):
+    return [10, j]
+
+
+def most(a, b):
+    return [13, a, b]
+
+
+def take(a, b):
+    return [14, a, b]
+
+
+def zeros(j, a, b, c, d):
+    return [15, j, a, b, c, d]
+
+
+def square(factors):
+    return [16, len(factors)] + factors
 
 
 def joined(calls):
@@ -71,14 +97,44 @@ def pairs(values):
     return [number for value in values for number in (value.numerator, value.denominator)]
 
 
+def fractions(answer):
+    """What stands behind the number that is answered first, as fractions."""
+    return [Fraction(answer[i], answer[i + 1]) for i in range(1, len(answer), 2)]
+
+
 def means_answer(values):
     return [len(values)] + pairs([Fraction(value) for value in values])
 
 
 def means_after(*calls):
     """The means that calls leave, as fractions."""
-    given = last(*calls, MEANS)
-    return [Fraction(given[i], given[i + 1]) for i in range(1, len(given), 2)]
+    return fractions(last(*calls, MEANS))
+
+
+def with_means(means):
+    """Calls that leave these means."""
+    return [begin(len(means) // 2), row(1, means)]
+
+
+def points(k, places_and_weights):
+    """Calls that leave these points alone."""
+    return [begin(k), set_mean(0, 0, 1)] + [put(*place, *weight) for place, weight in places_and_weights]
+
+
+def value_at(factors, place):
+    return sum((factor * place ** i for i, factor in enumerate(factors)), Fraction(0))
+
+
+def product(factors, other):
+    whole = [Fraction(0)] * (len(factors) + len(other) - 1)
+    for i, x in enumerate(factors):
+        for j, y in enumerate(other):
+            whole[i + j] += x * y
+    return whole
+
+
+def mean_by_words(factors, means):
+    return sum((factor * means[i] for i, factor in enumerate(factors)), Fraction(0))
 
 
 def part_over(upper, lower, prime):

@@ -1,11 +1,11 @@
-"""-75 of put and move: at the bound, just below it, and that no mean is changed then."""
+"""-75 of put, move and take: at the bound, just below it, and that no mean is changed then."""
 
 import unittest
 from fractions import Fraction
 from math import prod
 
-from helper import (BOUND, MEANS, PRIMES, PRIMES_ABOVE, PRIMES_BELOW, begin, last, means_after, means_answer, move,
-                    parts, put, set_mean, told)
+from helper import (BOUND, FITS, MEANS, PRIMES, PRIMES_ABOVE, PRIMES_BELOW, STRICT, begin, last, means_after,
+                    means_answer, most, move, pairs, parts, put, set_mean, take, told)
 from spreadmeans.ratios import too_long
 
 
@@ -84,6 +84,72 @@ class AtTheBound(unittest.TestCase):
         for upper, lower, expected in ((BOUND - 1, 1, False), (BOUND, 1, True), (1 - BOUND, 1, False),
                                        (-BOUND, 1, True), (1, BOUND - 1, False), (1, BOUND, True)):
             self.assertEqual(too_long((upper, lower)), expected)
+
+
+def towards_take(upper, primes, second):
+    """Calls after which the mean of the power 1 is upper by the primes' product, and it fits strictly.
+
+    Taken off at 0, the mean of the power 0 becomes the square of the one of the power 1 by the second.
+    """
+    whole, cut = parts(upper, primes)
+    return ([begin(1), set_mean(1, whole, 1)] + [put(1, 1, part.numerator, part.denominator) for part in cut]
+            + [set_mean(0, 99999, 1), set_mean(2, second, 1)])
+
+
+class TakeAtTheBound(unittest.TestCase):
+    few = PRIMES[:9]
+
+    def check_taken(self, calls, left):
+        given = told(*calls, take(0, 1), FITS, STRICT)[len(calls):]
+        self.assertEqual(given, [[0] + pairs([99999 - left]), [1], [0]])
+        self.assertEqual(means_after(*calls, take(0, 1)), [left] + means_after(*calls)[1:])
+
+    def check_refused(self, calls):
+        given = told(*calls, take(0, 1), STRICT, MEANS)[len(calls):]
+        self.assertEqual(given, [[-75], [1], last(*calls, MEANS)])
+
+    def test_upper_just_below(self):
+        upper = 10 ** 30 - 1
+        self.check_taken(towards_take(upper, self.few, 99997), Fraction(upper ** 2, prod(self.few) ** 2 * 99997))
+        self.assertEqual(last(*towards_take(upper, self.few, 99997), take(0, 1), MEANS)[1], upper ** 2)
+
+    def test_upper_at_the_bound(self):
+        left = Fraction(BOUND, prod(self.few) ** 2 * 99997)
+        self.assertEqual(left.numerator, BOUND)
+        self.check_refused(towards_take(10 ** 30, self.few, 99997))
+
+    def test_upper_just_above(self):
+        self.check_refused(towards_take(10 ** 30 + 1, self.few, 99997))
+
+    def test_lower(self):
+        ten = PRIMES[9:]
+        lower = prod(ten) ** 2
+        edge = (BOUND - 1) // lower
+        self.assertTrue(1 < edge < 99999)
+        self.check_taken(towards_take(1, ten, edge), Fraction(1, lower * edge))
+        self.check_refused(towards_take(1, ten, edge + 1))
+
+    def test_what_is_taken_is_not_held_to_the_bound(self):
+        whole, cut = parts(BOUND - 1, PRIMES)
+        calls = [begin(1), set_mean(0, whole, 1)] + [put(0, 1, part.numerator, part.denominator) for part in cut]
+        calls += [set_mean(1, 1, 99991), set_mean(2, 99989, 1)]
+        left = Fraction(1, 99991 ** 2 * 99989)
+        taken = Fraction(BOUND - 1, prod(PRIMES)) - left
+        self.assertTrue(taken.numerator > BOUND and taken.denominator > BOUND)
+        self.assertEqual(told(*calls, most(0, 1), take(0, 1), MEANS)[len(calls):],
+                         [[0] + pairs([taken])] * 2 + [means_answer([left, Fraction(1, 99991), 99989])])
+
+    def test_the_power_counts(self):
+        calls = [begin(4), put(1, 997, 1, 1), put(1, 991, 1, 1), put(1, 1, 3, 1), put(2, 1, 1, 1)]
+        given = told(*calls, most(1, 983), take(1, 983), MEANS, STRICT, take(1, 1))[len(calls):]
+        self.assertEqual([answer[0] for answer in given], [0, -75, 9, 1, 0])
+        self.assertEqual(given[1:], [[-75], last(*calls, MEANS), [1], [0, 3, 1]])
+
+    def test_what_is_wrong_comes_before_what_is_long(self):
+        calls = [begin(4), put(1, 997, 1, 1), put(1, 991, 1, 1), put(1, 1, 3, 1)]
+        self.assertEqual(last(*calls, take(1, 983)), [-33])
+        self.assertEqual(last(*calls, put(2, 1, 1, 1), take(1000, 983)), [-22])
+        self.assertEqual(last(*calls, put(2, 1, 1, 1), take(1, 0)), [-22])
 
 
 class OverTheBound(unittest.TestCase):

@@ -1,12 +1,12 @@
-"""begin, set, row, put, move, means and mean: what they answer, and what they refuse."""
+"""begin, set, row, put, move, means, mean and square: what they answer, and what they refuse."""
 
 import random
 import unittest
 from fractions import Fraction
 from math import comb
 
-from helper import (HIGHEST, LOWEST, MEANS, answers, begin, joined, last, mean, means_after, means_answer, move, pairs,
-                    put, row, set_mean, told)
+from helper import (FITS, HIGHEST, LOWEST, MEANS, STRICT, answers, begin, joined, last, mean, means_after,
+                    means_answer, move, pairs, product, put, row, set_mean, square, told)
 
 
 class Whole(unittest.TestCase):
@@ -40,6 +40,19 @@ class Whole(unittest.TestCase):
 
     def test_mean_of_no_numbers(self):
         self.check([begin(2), mean([])], [[1, 5], [3, 0, 0, 1]])
+
+    def test_square(self):
+        for means, factors, expected in (([1, 1, 2], [1, 2], [13, 2]),
+                                         ([1, 1, 2, 6, 24], [1, -1, 2], [81, 2]),
+                                         ([1, 1, 2, 6, 24, 120, 720], [0, 1, 0, -1], [337, 1]),
+                                         ([1, 1, 2, 6, 24, 120, 720, 5040, 40320], [3, 0, 0, 0, 1], [40473, 2])):
+            self.check([begin(len(means) // 2), row(2, means), square(factors)],
+                       [[1, len(means)], [1, 0], [3, 0] + expected])
+
+    def test_square_of_no_numbers(self):
+        for k in (1, 2, 3, 4):
+            self.check([begin(k), square([])], [[1, 2 * k + 1], [3, 0, 0, 1]])
+            self.check([begin(k), row(1, [-1] * (2 * k + 1)), square([])], [[1, 2 * k + 1], [1, 0], [3, 0, 0, 1]])
 
     def test_a_refusal_is_one_number(self):
         self.check([MEANS, begin(0), begin(1), set_mean(3, 1, 1), move(0, 0), MEANS],
@@ -89,6 +102,28 @@ class Values(unittest.TestCase):
         for size in range(10):
             expected = sum((Fraction(factors[i] * old[i], 11) for i in range(size)), Fraction(0))
             self.assertEqual(last(begin(4), row(11, old), mean(factors[:size])), [0] + pairs([expected]))
+
+    def test_square_against_mean_of_the_product(self):
+        source = random.Random(12)
+        for run in range(80):
+            k = 1 + run % 4
+            means = [source.randint(-99, 99) for power in range(2 * k + 1)]
+            factors = [source.randint(-9, 9) for power in range(source.randint(1, k + 1))]
+            both = [int(one) for one in product(factors, factors)]
+            given = told(begin(k), row(7, means), square(factors), mean(both))
+            self.assertEqual(given[2], given[3], factors)
+
+    def test_square_at_the_edges_of_its_numbers(self):
+        for k in (1, 2, 3, 4):
+            means = [3, -1, 4, 1, -5, 9, 2, -6, 5][:2 * k + 1]
+            for factors in ([999] * (k + 1), [-999] * (k + 1), [-999, 999], [0] * k + [-999]):
+                both = product(factors, factors)
+                expected = sum(Fraction(both[i] * means[i], 11) for i in range(len(both)))
+                self.assertEqual(last(begin(k), row(11, means), square(factors)), [0] + pairs([expected]))
+
+    def test_square_may_be_below_0(self):
+        self.assertEqual(last(begin(1), row(1, [1, 3, 8]), square([-3, 1])), [0, -1, 1])
+        self.assertEqual(last(begin(1), row(2, [-3, 0, 0]), square([2])), [0, -6, 1])
 
     def test_long_runs_against_the_words(self):
         source = random.Random(11)
@@ -217,9 +252,24 @@ class Refusals(unittest.TestCase):
             for at in range(5):
                 self.check(mean([0] * at + [factor] + [0] * (4 - at)), expected)
 
+    def test_square_length(self):
+        for size in range(71):
+            self.check(square([1] * size), 0 if size <= 3 else -22)
+
+    def test_square_length_is_held_to_its_own_k(self):
+        for k in (1, 2, 3, 4):
+            self.assertEqual(last(begin(k), square([])), [0, 0, 1])
+            self.assertEqual(last(begin(k), square([1] * (k + 1))), [0, 1, 1])
+            self.assertEqual(last(begin(k), square([1] * (k + 2))), [-22])
+
+    def test_square_numbers(self):
+        for factor, expected in ((LOWEST, -22), (-1000, -22), (-999, 0), (999, 0), (1000, -22), (HIGHEST, -22)):
+            for at in range(3):
+                self.check(square([0] * at + [factor] + [0] * (2 - at)), expected)
+
     def test_asking_changes_nothing(self):
         calls = [begin(2), row(3, [4, 1, 5, -2, 7])]
-        self.assertEqual(last(*calls, mean([1, 2]), [7], [8], MEANS, MEANS), last(*calls, MEANS))
+        self.assertEqual(last(*calls, mean([1, 2]), square([1, 2]), FITS, STRICT, MEANS, MEANS), last(*calls, MEANS))
 
 
 if __name__ == "__main__":

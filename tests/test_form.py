@@ -12,7 +12,7 @@ FILES = sorted(path for path in PACKAGE.rglob("*") if "__pycache__" not in path.
 STATEMENTS = (ast.Assign, ast.AugAssign, ast.If, ast.While, ast.For, ast.Return, ast.Break, ast.Continue, ast.Pass,
               ast.Raise, ast.Try, ast.Expr, ast.FunctionDef, ast.ClassDef, ast.ImportFrom)
 NOT_USED = (ast.Div, ast.MatMult, ast.Set, ast.SetComp, ast.DictComp, ast.GeneratorExp, ast.NamedExpr, ast.Starred,
-            ast.Yield, ast.YieldFrom, ast.Await, ast.Is, ast.IsNot)
+            ast.Yield, ast.YieldFrom, ast.Await)
 NAMES = set("""len range enumerate zip min max sum abs sorted reversed int str bool list tuple dict set frozenset
     isinstance ord repr any all divmod Exception ValueError TypeError KeyError IndexError LookupError
     ZeroDivisionError ArithmeticError OverflowError RuntimeError NotImplementedError StopIteration""".split())
@@ -124,6 +124,9 @@ class Form(unittest.TestCase):
             if isinstance(node, ast.ListComp):
                 self.assertEqual(len(node.generators), 1, where)
                 self.assertLessEqual(len(node.generators[0].ifs), 1, where)
+            if isinstance(node, ast.Compare) and any(isinstance(sign, (ast.Is, ast.IsNot)) for sign in node.ops):
+                self.assertEqual(len(node.ops), 1, where)
+                self.assertIn(ast.unparse(node.comparators[0]), ("None", "True", "False"), where)
             if isinstance(node, ast.Constant):
                 self.assertIn(type(node.value), (int, str, bool, type(None)), where)
             if isinstance(node, ast.BinOp) and isinstance(node.op, ast.Pow):

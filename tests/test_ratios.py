@@ -1,9 +1,9 @@
-"""Fractions by themselves: what no call of its own asks yet."""
+"""Fractions by themselves."""
 
 import unittest
 from fractions import Fraction
 
-from spreadmeans.ratios import divided, fraction, less, plus, times
+from spreadmeans.ratios import divided, fraction, is_less, less, plus, times
 
 
 class Ratios(unittest.TestCase):
@@ -20,6 +20,7 @@ class Ratios(unittest.TestCase):
                 self.assertEqual(plus(first, second), (x + y).as_integer_ratio())
                 self.assertEqual(less(first, second), (x - y).as_integer_ratio())
                 self.assertEqual(times(first, second), (x * y).as_integer_ratio())
+                self.assertEqual(is_less(first, second), x < y)
                 if y != 0:
                     self.assertEqual(divided(first, second), (x / y).as_integer_ratio())
 
